@@ -1,0 +1,1 @@
+"""Complex numbers of singles, every result told to the bit."""
