@@ -1,108 +1,141 @@
 """Complex numbers whose parts are singles (IEEE 754 binary32), each part told by its bits."""
 
+from complexsingles.forms import converted, double_form, single_form
+
 NO_NUMBER_ANSWER = 4294967296
-
-SIGN_BIT = 0x80000000
-INFINITY = 0x7F800000
-SOME_NO_NUMBER = 0x7FC00000
-
-LEADING_BIT = 0x00800000
-FRACTION_BITS = 23
-SIGNIFICANT_BITS = 24
 
 
 def sum_of(ar, ai, br, bi):
     """a + b, part by part."""
-    return [answered(plus(ar, br)), answered(plus(ai, bi))]
+    form = single_form()
+    return answered(form, sum_parts(form, [ar, ai], [br, bi]))
 
 
 def difference(ar, ai, br, bi):
     """a - b, part by part."""
-    return [answered(minus(ar, br)), answered(minus(ai, bi))]
+    form = single_form()
+    return answered(form, [form.minus(ar, br), form.minus(ai, bi)])
 
 
-def answered(single):
-    """A single as it is given back: what is no number loses its bits."""
-    if is_no_number(single):
-        return NO_NUMBER_ANSWER
-    return single
+def product(ar, ai, br, bi):
+    """a times b, mended where both parts would be no numbers."""
+    form = single_form()
+    return answered(form, product_parts(form, [ar, ai], [br, bi]))
 
 
-def magnitude(single):
-    """The bits without the sign's."""
-    return single % SIGN_BIT
+def quotient(ar, ai, br, bi):
+    """a by b, made in doubles and rounded to singles behind it, mended where both parts would be no numbers."""
+    singles = single_form()
+    doubles = double_form()
+    a = [converted(singles, ar, doubles), converted(singles, ai, doubles)]
+    b = [converted(singles, br, doubles), converted(singles, bi, doubles)]
+    parts = quotient_parts(doubles, a, b)
+    return answered(singles, [converted(doubles, part, singles) for part in parts])
 
 
-def is_negative(single):
-    """Whether the sign's bit is set, also of a zero."""
-    return single >= SIGN_BIT
+def answered(form, parts):
+    """The parts as they are given back: what is no number loses its bits."""
+    return [NO_NUMBER_ANSWER if form.is_no_number(part) else part for part in parts]
 
 
-def is_no_number(single):
-    """Whether it is a NaN."""
-    return magnitude(single) > INFINITY
+def sum_parts(form, a, b):
+    """The parts of a + b."""
+    return [form.plus(a[0], b[0]), form.plus(a[1], b[1])]
 
 
-def is_infinite(single):
-    """Whether it is an infinity of either sign."""
-    return magnitude(single) == INFINITY
+def product_parts(form, a, b):
+    """The parts of a times b, mended if both are no numbers."""
+    products = four_products(form, a, b)
+    parts = parts_of_products(form, products)
+    if all_no_numbers(form, parts):
+        return mended_product(form, a, b, products, parts)
+    return parts
 
 
-def opposite(single):
-    """The same with the other sign."""
-    return single ^ SIGN_BIT
+def four_products(form, a, b):
+    """ar br, ai bi, ar bi and ai br."""
+    return [form.times(a[0], b[0]), form.times(a[1], b[1]), form.times(a[0], b[1]), form.times(a[1], b[0])]
 
 
-def plus(x, y):
-    """x + y as a single, rounded."""
-    if is_no_number(x) or is_no_number(y):
-        return SOME_NO_NUMBER
-    if is_infinite(x) and is_infinite(y) and x != y:
-        return SOME_NO_NUMBER
-    if is_infinite(x):
-        return x
-    if is_infinite(y):
-        return y
-    return finite_plus(x, y)
+def parts_of_products(form, products):
+    """The parts of a times b, of its four products."""
+    return [form.minus(products[0], products[1]), form.plus(products[2], products[3])]
 
 
-def minus(x, y):
-    """x - y as a single, rounded."""
-    return plus(x, opposite(y))
+def mended_product(form, a, b, products, parts):
+    """The parts of a times b where both of the parts first made are no numbers."""
+    a_infinite = any_infinite(form, a)
+    if a_infinite:
+        a = ones_for_infinities(form, a)
+        b = zeros_for_no_numbers(form, b)
+    b_infinite = any_infinite(form, b)
+    if b_infinite:
+        b = ones_for_infinities(form, b)
+        a = zeros_for_no_numbers(form, a)
+    if not a_infinite and not b_infinite:
+        if not any_infinite(form, products):
+            return parts
+        a = zeros_for_no_numbers(form, a)
+        b = zeros_for_no_numbers(form, b)
+    return scaled(form, form.infinity, parts_of_products(form, four_products(form, a, b)))
 
 
-def finite_plus(x, y):
-    """x + y of two finite singles."""
-    total = units_of(x) + units_of(y)
-    negative = total < 0
-    if total == 0:
-        # Numbers that cancel leave a positive zero; only two negative zeros give a negative one.
-        negative = is_negative(x) and is_negative(y)
-    bits = rounded(abs(total))
-    return opposite(bits) if negative else bits
+def quotient_parts(form, a, b):
+    """The parts of a by b, mended if both are no numbers.
 
-
-def units_of(single):
-    """How many times the smallest denormal a finite single is.
-
-    Every finite single is a whole number of these, so a sum of them is exact before it is rounded.
+    Rounding them to a narrower form makes no number of none and none of any, so they are mended ahead of it.
     """
-    exponent = magnitude(single) >> FRACTION_BITS
-    units = magnitude(single) % LEADING_BIT
-    if exponent > 0:
-        # A denormal's step is that of the smallest exponent above it, hence one less.
-        units = (LEADING_BIT + units) << (exponent - 1)
-    return -units if is_negative(single) else units
+    d = form.plus(form.times(b[0], b[0]), form.times(b[1], b[1]))
+    dividends = quotient_dividends(form, a, b)
+    parts = [form.by(dividends[0], d), form.by(dividends[1], d)]
+    if all_no_numbers(form, parts):
+        return mended_quotient(form, a, b, d, parts)
+    return parts
 
 
-def rounded(units):
-    """The single nearest to units (0 or more) of the smallest denormal, the even one of two."""
-    surplus = max(0, units.bit_length() - SIGNIFICANT_BITS)
-    step = 1 << surplus
-    kept = units // step
-    twice_rest = 2 * (units % step)
-    if twice_rest > step or (twice_rest == step and kept % 2 == 1):
-        kept += 1
-    # Adding lets the leading bit, and a carry out of rounding, raise the exponent by themselves.
-    bits = (surplus << FRACTION_BITS) + kept
-    return min(bits, INFINITY)
+def quotient_dividends(form, a, b):
+    """ar br + ai bi and ai br - ar bi."""
+    real = form.plus(form.times(a[0], b[0]), form.times(a[1], b[1]))
+    imaginary = form.minus(form.times(a[1], b[0]), form.times(a[0], b[1]))
+    return [real, imaginary]
+
+
+def mended_quotient(form, a, b, d, parts):
+    """The parts of a by b where both of the parts first made are no numbers."""
+    if form.is_zero(d) and not all_no_numbers(form, a):
+        return scaled(form, form.signed(form.infinity, form.is_negative(b[0])), a)
+    if any_infinite(form, a) and all_finite(form, b):
+        return scaled(form, form.infinity, quotient_dividends(form, ones_for_infinities(form, a), b))
+    if any_infinite(form, b) and all_finite(form, a):
+        return scaled(form, 0, quotient_dividends(form, a, ones_for_infinities(form, b)))
+    return parts
+
+
+def scaled(form, factor, parts):
+    """Each part, factor times."""
+    return [form.times(factor, part) for part in parts]
+
+
+def ones_for_infinities(form, parts):
+    """Each part replaced by 1 with its sign if it is infinite, else by 0 with its sign."""
+    return [form.signed(form.one if form.is_infinite(part) else 0, form.is_negative(part)) for part in parts]
+
+
+def zeros_for_no_numbers(form, parts):
+    """Each part that is no number replaced by 0 with its sign."""
+    return [form.signed(0, form.is_negative(part)) if form.is_no_number(part) else part for part in parts]
+
+
+def any_infinite(form, parts):
+    """Whether a part is infinite."""
+    return any([form.is_infinite(part) for part in parts])
+
+
+def all_finite(form, parts):
+    """Whether no part is infinite or no number."""
+    return all([form.is_finite(part) for part in parts])
+
+
+def all_no_numbers(form, parts):
+    """Whether every part is no number."""
+    return all([form.is_no_number(part) for part in parts])

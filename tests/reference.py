@@ -1,4 +1,4 @@
-"""Numbers that the tests share, and a second way to add singles, by Python's own floats."""
+"""Numbers that the tests share, and a second way to reckon with singles, by Python's own floats."""
 
 import math
 import struct
@@ -35,17 +35,102 @@ def bits_of(number):
 
 
 def number_of(bits):
-    return struct.unpack("<f", struct.pack("<I", bits))[0]
+    number = struct.unpack("<f", struct.pack("<I", bits))[0]
+    # Not every machine keeps the sign of what is no number when it widens it.
+    return math.copysign(math.nan, 0.5 - (bits >> 31)) if math.isnan(number) else number
+
+
+def as_single(number):
+    """A float rounded to a single, as a float."""
+    return number if math.isnan(number) else number_of(bits_of(number))
 
 
 # A double has more than twice a single's bits and two, so that rounding to a double first and to
-# a single then gives what rounding once does.
+# a single then gives what rounding once does. (Of two singles' sum, difference or product each.)
 def reference_sum(x, y):
     return bits_of(number_of(x) + number_of(y))
 
 
 def reference_difference(x, y):
     return bits_of(number_of(x) - number_of(y))
+
+
+def sign_for_infinite(number):
+    """1 with its sign if it is infinite, else 0 with its sign."""
+    return math.copysign(1.0 if math.isinf(number) else 0.0, number)
+
+
+def number_or_zero(number):
+    return math.copysign(0.0, number) if math.isnan(number) else number
+
+
+def reference_product(*four):
+    ar, ai, br, bi = [number_of(bits) for bits in four]
+    products = [as_single(ar * br), as_single(ai * bi), as_single(ar * bi), as_single(ai * br)]
+    x = as_single(products[0] - products[1])
+    y = as_single(products[2] + products[3])
+    if math.isnan(x) and math.isnan(y):
+        mended = False
+        if math.isinf(ar) or math.isinf(ai):
+            ar, ai = sign_for_infinite(ar), sign_for_infinite(ai)
+            br, bi = number_or_zero(br), number_or_zero(bi)
+            mended = True
+        if math.isinf(br) or math.isinf(bi):
+            br, bi = sign_for_infinite(br), sign_for_infinite(bi)
+            ar, ai = number_or_zero(ar), number_or_zero(ai)
+            mended = True
+        if not mended and any(math.isinf(product) for product in products):
+            ar, ai, br, bi = [number_or_zero(part) for part in (ar, ai, br, bi)]
+            mended = True
+        if mended:
+            x = math.inf * as_single(as_single(ar * br) - as_single(ai * bi))
+            y = math.inf * as_single(as_single(ar * bi) + as_single(ai * br))
+    return [bits_of(x), bits_of(y)]
+
+
+def reference_quotient(*four):
+    ar, ai, br, bi = [number_of(bits) for bits in four]
+    d = br * br + bi * bi
+    # By 0 there is only 0 or no number here, and Python's floats refuse it.
+    x = (ar * br + ai * bi) / d if d != 0 else math.nan
+    y = (ai * br - ar * bi) / d if d != 0 else math.nan
+    if math.isnan(x) and math.isnan(y):
+        if d == 0 and not (math.isnan(ar) and math.isnan(ai)):
+            x = math.copysign(math.inf, br) * ar
+            y = math.copysign(math.inf, br) * ai
+        elif (math.isinf(ar) or math.isinf(ai)) and math.isfinite(br) and math.isfinite(bi):
+            ar, ai = sign_for_infinite(ar), sign_for_infinite(ai)
+            x = math.inf * (ar * br + ai * bi)
+            y = math.inf * (ai * br - ar * bi)
+        elif (math.isinf(br) or math.isinf(bi)) and math.isfinite(ar) and math.isfinite(ai):
+            br, bi = sign_for_infinite(br), sign_for_infinite(bi)
+            x = 0.0 * (ar * br + ai * bi)
+            y = 0.0 * (ai * br - ar * bi)
+    return [bits_of(x), bits_of(y)]
+
+
+# One of each kind: zeros, infinities and no numbers of either sign, denormal, ordinary, and those
+# whose products are too small or too large.
+KINDS = [
+    ZERO, MINUS_ZERO, 0x00000003, 0x20000001, ONE, 0xC0400000,
+    0x60000000, MINUS_LARGEST, INFINITY, MINUS_INFINITY, 0x7FC00000, 0xFF800001,
+]
+
+
+def mixed_fours(count):
+    """Fours of singles of all sizes, many of them near one another; the same ones each time."""
+    state = 20261116
+    spans = [(0, 255), (118, 8), (56, 12), (188, 8), (0, 3), (250, 6), (62, 4), (126, 2)]
+    fours = []
+    for k in range(count):
+        first, width = spans[k % len(spans)]
+        four = []
+        for part in range(4):
+            state = (state * 6364136223846793005 + 1442695040888963407) % 2 ** 64
+            exponent = first + (state >> 40) % width
+            four.append((state >> 63 << 31) + (exponent << 23) + (state >> 8) % 2 ** 23)
+        fours.append(four)
+    return fours
 
 
 def many_singles():
@@ -58,6 +143,13 @@ def many_singles():
         for exponent in exponents
         for fraction in fractions
     ]
+
+
+def check_fours(test, call, cases):
+    """Asks for each (four, answer)."""
+    for four, answer in cases:
+        with test.subTest(four=[hex(bits) for bits in four]):
+            test.assertEqual(call(*four), answer)
 
 
 def check_parts(test, call, beside, cases):
