@@ -33,6 +33,18 @@ def quotient(ar, ai, br, bi):
     return answered(singles, [converted(doubles, part, singles) for part in parts])
 
 
+def conjugate(ar, ai):
+    """a with the other sign of its imaginary part."""
+    form = single_form()
+    return answered(form, [ar, form.opposite(ai)])
+
+
+def square(ar, ai):
+    """ar ar + ai ai."""
+    form = single_form()
+    return answered(form, [square_part(form, ar, ai)])
+
+
 def answered(form, parts):
     """The parts as they are given back: what is no number loses its bits."""
     return [NO_NUMBER_ANSWER if form.is_no_number(part) else part for part in parts]
@@ -85,7 +97,7 @@ def quotient_parts(form, a, b):
 
     Rounding them to a narrower form makes no number of none and none of any, so they are mended ahead of it.
     """
-    d = form.plus(form.times(b[0], b[0]), form.times(b[1], b[1]))
+    d = square_part(form, b[0], b[1])
     dividends = quotient_dividends(form, a, b)
     parts = [form.by(dividends[0], d), form.by(dividends[1], d)]
     if all_no_numbers(form, parts):
@@ -109,6 +121,11 @@ def mended_quotient(form, a, b, d, parts):
     if any_infinite(form, b) and all_finite(form, a):
         return scaled(form, 0, quotient_dividends(form, a, ones_for_infinities(form, b)))
     return parts
+
+
+def square_part(form, real, imaginary):
+    """real real + imaginary imaginary."""
+    return form.plus(form.times(real, real), form.times(imaginary, imaginary))
 
 
 def scaled(form, factor, parts):

@@ -109,6 +109,10 @@ def reference_quotient(*four):
     return [bits_of(x), bits_of(y)]
 
 
+def reference_square(ar, ai):
+    return [bits_of(as_single(number_of(ar) ** 2) + as_single(number_of(ai) ** 2))]
+
+
 # One of each kind: zeros, infinities and no numbers of either sign, denormal, ordinary, and those
 # whose products are too small or too large.
 KINDS = [

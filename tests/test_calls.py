@@ -30,6 +30,8 @@ CALLS = [
     (singles.difference, FOUR_NAMES, [(four, 2) for four in FOURS]),
     (singles.product, FOUR_NAMES, [(four, 2) for four in FOURS]),
     (singles.quotient, FOUR_NAMES, [(four, 2) for four in FOURS]),
+    (singles.conjugate, ["ar", "ai"], [(four[:2], 2) for four in FOURS]),
+    (singles.square, ["ar", "ai"], [(four[:2], 1) for four in FOURS]),
 ]
 TOP = pathlib.Path(__file__).resolve().parent.parent
 
