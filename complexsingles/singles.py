@@ -3,6 +3,8 @@
 from complexsingles.forms import converted, double_form, single_form
 
 NO_NUMBER_ANSWER = 4294967296
+REFUSAL = -1
+LARGEST_COUNT = 64
 
 
 def sum_of(ar, ai, br, bi):
@@ -43,6 +45,35 @@ def square(ar, ai):
     """ar ar + ai ai."""
     form = single_form()
     return answered(form, [square_part(form, ar, ai)])
+
+
+def polynomial(n, c, z):
+    """0, and the value at z of the polynomial whose n coefficients are c; or the refusal."""
+    if is_refused(n):
+        return [REFUSAL]
+    form = single_form()
+    return [0] + answered(form, polynomial_parts(form, n, c, z))
+
+
+def transform(n, x, w):
+    """0, and for each k below n the sum of the products of x[j] and w[(j k) mod n]; or the refusal."""
+    if is_refused(n):
+        return [REFUSAL]
+    form = single_form()
+    answer = [0]
+    for k in range(n):
+        answer.extend(answered(form, transform_parts(form, n, x, w, k)))
+    return answer
+
+
+def is_refused(n):
+    """Whether a list of n complex numbers is none that is reckoned with."""
+    return n < 1 or n > LARGEST_COUNT
+
+
+def number_at(numbers, place):
+    """The two parts of the complex number at a place of a list."""
+    return [numbers[2 * place], numbers[2 * place + 1]]
 
 
 def answered(form, parts):
@@ -121,6 +152,23 @@ def mended_quotient(form, a, b, d, parts):
     if any_infinite(form, b) and all_finite(form, a):
         return scaled(form, 0, quotient_dividends(form, a, ones_for_infinities(form, b)))
     return parts
+
+
+def polynomial_parts(form, n, c, z):
+    """The parts of the polynomial's value, from the last coefficient on."""
+    r = number_at(c, n - 1)
+    for place in range(n - 2, -1, -1):
+        r = sum_parts(form, product_parts(form, r, z), number_at(c, place))
+    return r
+
+
+def transform_parts(form, n, x, w, k):
+    """The parts of the k-th number of the transform."""
+    # The first product as it is: were it added to 0, a negative zero would lose its sign.
+    total = product_parts(form, number_at(x, 0), number_at(w, 0))
+    for j in range(1, n):
+        total = sum_parts(form, total, product_parts(form, number_at(x, j), number_at(w, j * k % n)))
+    return total
 
 
 def square_part(form, real, imaginary):

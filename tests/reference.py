@@ -113,6 +113,42 @@ def reference_square(ar, ai):
     return [bits_of(as_single(number_of(ar) ** 2) + as_single(number_of(ai) ** 2))]
 
 
+def told(parts):
+    """Parts as they were answered, as they can be handed in again."""
+    return [0x7FC00000 if part == NO_NUMBER_ANSWER else part for part in parts]
+
+
+def answer_of(parts):
+    return [bits_of(number_of(part)) for part in parts]
+
+
+def reference_sum_of(a, b):
+    return [reference_sum(a[0], b[0]), reference_sum(a[1], b[1])]
+
+
+def pairs_of(numbers):
+    return list(zip(numbers[0::2], numbers[1::2]))
+
+
+def reference_polynomial(n, c, z):
+    coefficients = pairs_of(c)
+    r = coefficients.pop()
+    while coefficients:
+        r = reference_sum_of(told(reference_product(*told(r), *z)), coefficients.pop())
+    return [0] + answer_of(told(r))
+
+
+def reference_transform(n, x, w):
+    answer = [0]
+    for k in range(n):
+        products = [told(reference_product(*a, *pairs_of(w)[j * k % n])) for j, a in enumerate(pairs_of(x))]
+        total = products[0]
+        for following in products[1:]:
+            total = told(reference_sum_of(total, following))
+        answer += answer_of(total)
+    return answer
+
+
 # One of each kind: zeros, infinities and no numbers of either sign, denormal, ordinary, and those
 # whose products are too small or too large.
 KINDS = [
@@ -121,20 +157,38 @@ KINDS = [
 ]
 
 
+def draws(seed):
+    """Whole numbers below 2 to the 40 in no plain order, the same ones each time."""
+    state = seed
+    while True:
+        state = (state * 6364136223846793005 + 1442695040888963407) % 2 ** 64
+        yield state >> 24
+
+
+def drawn_single(draw, first, width):
+    """A single of either sign with one of width exponents from first on."""
+    number = next(draw)
+    return (number >> 39 << 31) + (first + (number >> 23) % 2 ** 16 % width << 23) + number % 2 ** 23
+
+
 def mixed_fours(count):
-    """Fours of singles of all sizes, many of them near one another; the same ones each time."""
-    state = 20261116
+    """Fours of singles of all sizes, many of them near one another."""
+    draw = draws(20261116)
     spans = [(0, 255), (118, 8), (56, 12), (188, 8), (0, 3), (250, 6), (62, 4), (126, 2)]
-    fours = []
-    for k in range(count):
-        first, width = spans[k % len(spans)]
-        four = []
-        for part in range(4):
-            state = (state * 6364136223846793005 + 1442695040888963407) % 2 ** 64
-            exponent = first + (state >> 40) % width
-            four.append((state >> 63 << 31) + (exponent << 23) + (state >> 8) % 2 ** 23)
-        fours.append(four)
-    return fours
+    return [[drawn_single(draw, *spans[k % len(spans)]) for part in range(4)] for k in range(count)]
+
+
+def mixed_numbers(count, seed):
+    """A list of count complex numbers whose parts are ordinary."""
+    draw = draws(seed)
+    return [drawn_single(draw, 120, 12) for part in range(2 * count)]
+
+
+def kinds_numbers(count, seed):
+    """A list of count complex numbers whose parts are of all kinds, but mostly ordinary."""
+    draw = draws(seed)
+    kinds = KINDS + [ONE, TWO, MINUS_ONE, 0x3DCCCCCD, 0xC0A00000, THREE] * 2
+    return [kinds[(next(draw) >> 10) % len(kinds)] for part in range(2 * count)]
 
 
 def many_singles():
@@ -147,6 +201,16 @@ def many_singles():
         for exponent in exponents
         for fraction in fractions
     ]
+
+
+class Guarded(list):
+    """A list that can't be changed, not for a while either."""
+
+    def refuse(self, *handed_in, **named):
+        raise AssertionError("what is handed in was changed")
+
+    append = clear = extend = insert = pop = remove = reverse = sort = refuse
+    __setitem__ = __delitem__ = __iadd__ = __imul__ = refuse
 
 
 def check_fours(test, call, cases):

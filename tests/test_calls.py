@@ -11,7 +11,7 @@ import unittest
 from unittest import mock
 
 from complexsingles import forms, singles
-from tests.reference import FIVE, INFINITY, NO_NUMBERS, ONE, THREE, TWO, ZERO
+from tests.reference import FIVE, INFINITY, NO_NUMBERS, ONE, THREE, TWO, ZERO, Guarded, kinds_numbers, mixed_numbers
 
 FOUR_NAMES = ["ar", "ai", "br", "bi"]
 FOURS = [
@@ -24,6 +24,12 @@ FOURS = [
     [ONE, TWO, NO_NUMBERS[-1], INFINITY],
 ]
 
+COUNTS = [1, 2, 3, 64]
+REFUSED_COUNTS = [0, 65, 4294967295]
+LISTS = [
+    (n, numbers_of(n, 1), numbers_of(n, 2)) for numbers_of in (mixed_numbers, kinds_numbers) for n in COUNTS
+]
+
 # Of each function its arguments' names, some that are handed in, and how many numbers each of these answers.
 CALLS = [
     (singles.sum_of, FOUR_NAMES, [(four, 2) for four in FOURS]),
@@ -32,6 +38,14 @@ CALLS = [
     (singles.quotient, FOUR_NAMES, [(four, 2) for four in FOURS]),
     (singles.conjugate, ["ar", "ai"], [(four[:2], 2) for four in FOURS]),
     (singles.square, ["ar", "ai"], [(four[:2], 1) for four in FOURS]),
+    (
+        singles.polynomial, ["n", "c", "z"],
+        [([n, first, second[-2:]], 3) for n, first, second in LISTS] + [([n, [], [ONE, TWO]], 1) for n in REFUSED_COUNTS],
+    ),
+    (
+        singles.transform, ["n", "x", "w"],
+        [([n, first, second], 1 + 2 * n) for n, first, second in LISTS] + [([n, [], []], 1) for n in REFUSED_COUNTS],
+    ),
 ]
 TOP = pathlib.Path(__file__).resolve().parent.parent
 
@@ -76,6 +90,11 @@ class CallsTest(unittest.TestCase):
             self.assertEqual(given, handed_in)
             self.assertEqual(call(*given), copied)
         self.assertEqual(kept_by_modules(), before)
+
+    def test_handed_in_is_not_changed_for_a_while_either(self):
+        for call, handed_in, length in each_call():
+            guarded = [Guarded(given) if isinstance(given, list) else given for given in handed_in]
+            self.assertEqual(call(*guarded), call(*handed_in))
 
     def test_calls_in_any_order_answer_as_if_each_was_the_first(self):
         calls = each_call()
