@@ -3,7 +3,6 @@
 from complexsingles.forms import converted, double_form, single_form
 
 NO_NUMBER_ANSWER = 4294967296
-REFUSAL = -1
 LARGEST_COUNT = 64
 
 
@@ -48,17 +47,17 @@ def square(ar, ai):
 
 
 def polynomial(n, c, z):
-    """0, and the value at z of the polynomial whose n coefficients are c; or the refusal."""
+    """0, and the value at z of the polynomial whose n coefficients are c; or -1 alone."""
     if is_refused(n):
-        return [REFUSAL]
+        return [-1]
     form = single_form()
     return [0] + answered(form, polynomial_parts(form, n, c, z))
 
 
 def transform(n, x, w):
-    """0, and for each k below n the sum of the products of x[j] and w[(j k) mod n]; or the refusal."""
+    """0, and for each k below n the sum of the products of x[j] and w[(j k) mod n]; or -1 alone."""
     if is_refused(n):
-        return [REFUSAL]
+        return [-1]
     form = single_form()
     answer = [0]
     for k in range(n):
@@ -66,8 +65,19 @@ def transform(n, x, w):
     return answer
 
 
+def sort(n, x):
+    """0, and the n places of x in the order of its numbers' squares; or -1 alone."""
+    if is_refused(n):
+        return [-1]
+    form = single_form()
+    # A square has no sign, not even if it is 0, so squares stand in the order of their bits, and what is no
+    # number is answered as more than any of these. Of equal ones sorted leaves the smaller place first.
+    squares = answered(form, [square_part(form, x[2 * place], x[2 * place + 1]) for place in range(n)])
+    return [0] + sorted(range(n), key=lambda place: squares[place])
+
+
 def is_refused(n):
-    """Whether a list of n complex numbers is none that is reckoned with."""
+    """Whether a list of n complex numbers is empty or too long, so that the call is refused."""
     return n < 1 or n > LARGEST_COUNT
 
 
@@ -126,7 +136,7 @@ def mended_product(form, a, b, products, parts):
 def quotient_parts(form, a, b):
     """The parts of a by b, mended if both are no numbers.
 
-    Rounding them to a narrower form makes no number of none and none of any, so they are mended ahead of it.
+    In rounding them to a narrower form a number stays a number and a NaN a NaN, so that it may follow behind.
     """
     d = square_part(form, b[0], b[1])
     dividends = quotient_dividends(form, a, b)

@@ -40,11 +40,16 @@ CALLS = [
     (singles.square, ["ar", "ai"], [(four[:2], 1) for four in FOURS]),
     (
         singles.polynomial, ["n", "c", "z"],
-        [([n, first, second[-2:]], 3) for n, first, second in LISTS] + [([n, [], [ONE, TWO]], 1) for n in REFUSED_COUNTS],
+        [([n, first, second[-2:]], 3) for n, first, second in LISTS]
+        + [([n, [], [ONE, TWO]], 1) for n in REFUSED_COUNTS],
     ),
     (
         singles.transform, ["n", "x", "w"],
         [([n, first, second], 1 + 2 * n) for n, first, second in LISTS] + [([n, [], []], 1) for n in REFUSED_COUNTS],
+    ),
+    (
+        singles.sort, ["n", "x"],
+        [([n, first], 1 + n) for n, first, second in LISTS] + [([n, []], 1) for n in REFUSED_COUNTS],
     ),
 ]
 TOP = pathlib.Path(__file__).resolve().parent.parent
